@@ -1,0 +1,1 @@
+"""Poundmeets: boats that go by each other on a canal, and where."""
