@@ -165,3 +165,72 @@ def some_days(canal, many, seed):
             day += (passing,)
         told.append(day)
     return told
+
+
+def all_lines(canal):
+    """All lines that never fall, one pound for each down boat, rising."""
+    found = product(range(canal[0] + 1), repeat=canal[2])
+    return [line for line in found if list(line) == sorted(line)]
+
+
+def rising_tables(canal, fits=None):
+    """Each table, rising, by lines; only those whose lines fit, where that is asked."""
+    lines = all_lines(canal)
+    below = {
+        line: [low for low in lines if all(map(int.__le__, low, line))] for line in lines
+    }
+
+    def onward(table):
+        up = len(table)
+        if up == canal[1]:
+            yield table
+            return
+        for line in below[table[-1]] if table else lines:
+            if fits is None or fits(up, line):
+                yield from onward(table + (line,))
+
+    return onward(())
+
+
+def agrees(table, sights):
+    """Whether the table has what was seen."""
+    return all(low <= table[up][down] <= high for up, down, low, high in sights)
+
+
+def some_sights(canal, chance, many):
+    """So many sights, by chance."""
+    told = []
+    for _ in range(many if canal[1] and canal[2] else 0):
+        low, high = sorted((chance.randint(0, canal[0]), chance.randint(0, canal[0])))
+        told.append((chance.randrange(canal[1]), chance.randrange(canal[2]), low, high))
+    return tuple(told)
+
+
+def some_tables(canal, many, seed):
+    """Some tables of a canal, the same ones each time."""
+    return [table_behind(canal, day) for day in some_days(canal, many, seed)]
+
+
+def book_at(canal, table, lock):
+    """The book of a lock: before each up boat stand those down boats met no higher."""
+    told = ["down"] * (canal[1] + canal[2])
+    for up, line in enumerate(table):
+        told[up + len([pound for pound in line if pound <= lock])] = "up"
+    return tuple(told)
+
+
+def differ(one, other):
+    """By how much the numbers of two tables differ, all together."""
+    flat = (sum(table, ()) for table in (one, other))
+    return sum(abs(pound - beside) for pound, beside in zip(*flat))
+
+
+def lock_through(day, gates):
+    """How often each lock is turned on a day, and how all stand in the evening."""
+    stand, turned = list(gates), [0] * len(gates)
+    for way, _, lock in day:
+        wanted = {"up": "low", "down": "high"}[way]
+        if stand[lock] != wanted:
+            turned[lock] += 1
+        stand[lock] = {"up": "high", "down": "low"}[way]
+    return tuple(turned), tuple(stand)

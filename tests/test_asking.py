@@ -5,14 +5,21 @@ import inspect
 import unittest
 from itertools import permutations
 
-from poundmeets import canals, days, tables
-from poundmeets.errors import Barred, NoBooks, NoCanal, NoDay, NoLock, NoRow, NoTable
+from poundmeets import canals, days, gates, numbers, sights, steps, tables
+from poundmeets.errors import (
+    Barred, NoBook, NoBooks, NoCanal, NoDay, NoGates, NoLock, NoNumber, NoRow, NoSights, NoTable,
+    NoneAgree,
+)
 
 CANAL = (2, 2, 1)
 TABLE = ((1,), (0,))
 DAY = days.day_of(CANAL, TABLE)
 ROW = DAY[:3]
 BOOKS = tuple(tables.book(CANAL, TABLE, lock) for lock in range(2))
+OTHER = ((2,), (2,))
+LEADING = (TABLE, ((2,), (0,)), ((2,), (1,)), OTHER)
+SIGHTS = ((1, 0, 0, 1), (0, 0, 1, 2))
+GATES = ("high", "low")
 
 # Each function of the interface: its module, its arguments' names, what it is asked.
 ASKED = (
@@ -35,6 +42,24 @@ ASKED = (
     (days, "upside_down", {"canal": CANAL, "day": DAY}),
     (days, "backward_table", {"canal": CANAL, "table": TABLE}),
     (days, "upside_down_table", {"canal": CANAL, "table": TABLE}),
+    (numbers, "many_tables", {"canal": CANAL}),
+    (numbers, "number_of", {"canal": CANAL, "table": TABLE}),
+    (numbers, "table_at", {"canal": CANAL, "number": 5}),
+    (steps, "one_off", {"canal": CANAL, "table": TABLE}),
+    (steps, "lesser", {"canal": CANAL, "one": TABLE, "other": OTHER}),
+    (steps, "greater", {"canal": CANAL, "one": TABLE, "other": OTHER}),
+    (steps, "how_far", {"canal": CANAL, "one": TABLE, "other": OTHER}),
+    (steps, "shortest", {"canal": CANAL, "one": TABLE, "other": OTHER}),
+    (steps, "leads", {"canal": CANAL, "one": TABLE, "other": OTHER, "thing": LEADING}),
+    (sights, "many_agree", {"canal": CANAL, "sights": SIGHTS}),
+    (sights, "span", {"canal": CANAL, "sights": SIGHTS}),
+    (sights, "sights_of", {"canal": CANAL, "lock": 1, "book": BOOKS[1]}),
+    (sights, "best_lock", {"canal": CANAL, "sights": SIGHTS}),
+    (gates, "turns", {"canal": CANAL, "table": TABLE, "gates": GATES}),
+    (gates, "evening", {"canal": CANAL, "table": TABLE, "gates": GATES}),
+    (gates, "fewest", {"canal": CANAL, "gates": GATES}),
+    (gates, "bounds", {"canal": CANAL, "gates": GATES}),
+    (gates, "is_fewest", {"canal": CANAL, "gates": GATES, "thing": ((2,), (0,))}),
 )
 
 
@@ -49,7 +74,7 @@ def deep(kind):
 # Things that are none of what is asked for, of whatever kind.
 ODD = (
     None, True, False, "", "up", "down", "x" * 2000, "d0@1\t\n~", [], {}, [[]], ((),), [()],
-    {"up": 0}, {0: (), "a": [None]}, -1, 2, 7, 10 ** 12 - 1, 1 - 10 ** 12, (None,), (True,),
+    {"up": 0}, {0: (), "a": [None]}, -1, 6, 7, 10 ** 12 - 1, 1 - 10 ** 12, (None,), (True,),
     deep(lambda part: (part,)), deep(lambda part: [part]), deep(lambda part: {0: part}),
     (0,) * 2000, [0] * 2000, ("up",) * 2000, ((0, 0, 0),) * 400, ({}, [], ()), (1, 2, 3, 4),
 )
@@ -84,11 +109,35 @@ NEAR = {
         (BOOKS[0], ("up", "up", "down", "down")), (BOOKS[0], ("up", "up", True)), ((), ()),
         (BOOKS[0], "upupdown"), (BOOKS[0], ("up", "up", ["down"])),
     ),
+    "number": (-1, 6, "5", (5,), [5], (), 5 - 10 ** 11),
+    "sights": (
+        list(SIGHTS), (list(SIGHTS[0]),), SIGHTS[0], SIGHTS + (SIGHTS[0][:3],), SIGHTS + (None,),
+        SIGHTS * 51, ((2, 0, 0, 1),), ((1, 1, 0, 1),), ((1, 0, 2, 1),), ((1, 0, 0, 3),),
+        ((1, 0, -1, 0),), ((-1, 0, 0, 1),), ((True, 0, 0, 1),), ((1, False, 0, 1),),
+        ((1, 0, False, 1),), ((1, 0, 0, True),), ((1, 0, "0", 1),),
+    ),
+    "book": (
+        list(BOOKS[0]), BOOKS, BOOKS[0][:2], BOOKS[0] + ("up",), ("up", "up", "up"), (),
+        ("up", "down", "down"), ("up", "up", True), ("up", "up", ["down"]), ("up", "up", "Down"),
+    ),
+    "gates": (
+        list(GATES), GATES[:1], GATES + GATES[:1], (), ("high", "Low"), ("high", True),
+        ("high", ["low"]), (GATES, GATES), {"high": "low"}, ("up", "down"),
+    ),
+    "leading": (
+        list(LEADING), LEADING[1:], LEADING[:-1], LEADING[::-1], LEADING[:1] + LEADING, (),
+        LEADING[:2] + LEADING[3:], LEADING[:1] + (((2,), (False,)),) + LEADING[2:],
+        (((True,), (0,)),) + LEADING[1:], LEADING[:3] + ([(2,), (2,)],), LEADING + (None,),
+    ),
 }
+NEAR["one"] = NEAR["other"] = NEAR["table"]
 REFUSED = {
     "canal": NoCanal, "row": NoRow, "day": NoDay, "table": NoTable, "lock": NoLock,
-    "books": NoBooks,
+    "books": NoBooks, "number": NoNumber, "one": NoTable, "other": NoTable, "sights": NoSights,
+    "book": NoBook, "gates": NoGates,
 }
+# Whether a thing is what, where it isn't asked of a day.
+KINDS = {"is_canal": "canal", "is_table": "table", "leads": "leading", "is_fewest": "table"}
 
 
 def wrong(name):
@@ -151,6 +200,12 @@ class Asking(unittest.TestCase):
             self.refused(NoRow, ask, {"canal": CANAL, "row": barred + (("up", 0, 5),)})
             self.refused(NoCanal, ask, {"canal": (0, 0, 0), "row": barred})
 
+    def test_no_sights_goes_ahead_of_none_agree(self):
+        crossed = ((0, 0, 0, 0), (1, 0, 1, 2))
+        self.refused(NoneAgree, sights.best_lock, {"canal": CANAL, "sights": crossed})
+        self.refused(NoSights, sights.best_lock, {"canal": CANAL, "sights": crossed + (None,)})
+        self.refused(NoSights, sights.best_lock, {"canal": CANAL, "sights": crossed * 51})
+
     def test_of_anything_it_is_told_whether(self):
         for module, name, given in ASKED:
             if "thing" not in given:
@@ -158,8 +213,7 @@ class Asking(unittest.TestCase):
             ask = getattr(module, name)
             rest = {key: given[key] for key in given if key != "thing"}
             self.assertIs(ask(**given), True)
-            kind = {"is_canal": "canal", "is_table": "table"}.get(name, "day")
-            for thing in wrong(kind):
+            for thing in wrong(KINDS.get(name, "day")):
                 before = copy.deepcopy(thing)
                 self.assertIs(ask(thing=thing, **rest), False, thing)
                 self.assertEqual(repr(thing), repr(before))
@@ -173,6 +227,12 @@ class Asking(unittest.TestCase):
         self.assertEqual(tables.of_books(canal, books), table)
         self.assertEqual(days.day_of(canal, table), day)
         self.assertEqual(days.backward(canal, days.backward(canal, day)), day)
+        last = numbers.table_at(canal, numbers.many_tables(canal) - 1)
+        way = steps.shortest(canal, table, last)
+        self.assertIs(steps.leads(canal, table, last, way), True)
+        self.assertEqual(sights.best_lock(canal, sights.sights_of(canal, 3, books[3]))[0], 1)
+        late = gates.evening(canal, way[40], ("low",) * 5)
+        self.assertIs(gates.is_fewest(canal, late, gates.fewest(canal, late)[1]), True)
 
     def test_all_that_is_told_is_of_plain_kinds(self):
         def check(told):

@@ -7,11 +7,6 @@ from poundmeets import canals, days, tables
 from tests import plain
 
 
-def some_tables(canal, many, seed):
-    """Some tables of a canal, the same ones each time."""
-    return [plain.table_behind(canal, day) for day in plain.some_days(canal, many, seed)]
-
-
 class DaysOf(unittest.TestCase):
     def test_all_tables_of_small_canals(self):
         for canal in plain.SMALL:
@@ -35,7 +30,7 @@ class DaysOf(unittest.TestCase):
     def test_tables_of_the_greatest_canal(self):
         canal = plain.GREATEST
         edges = [((0,) * 4,) * 4, ((5,) * 4,) * 4, ((0, 2, 3, 5),) * 4]
-        for table in edges + some_tables(canal, 12, 8):
+        for table in edges + plain.some_tables(canal, 12, 8):
             count = plain.completions(canal, table)
             self.assertEqual(days.days_of(canal, table), count(plain.start(canal)))
             self.assertEqual(days.day_of(canal, table), plain.least_with(canal, table))
