@@ -2,7 +2,7 @@
 
 from math import comb, factorial
 
-from poundmeets.errors import Barred, NoCanal, NoDay, NoRow
+from poundmeets.errors import Barred, NoBoat, NoCanal, NoDay, NoRow, NoWay
 from poundmeets.kinds import has_parts, is_between
 
 MOST_LOCKS = 5
@@ -31,6 +31,18 @@ def boats_of(canal, way):
     """Tell how many boats of a way the canal has."""
     _, ups, downs = canal
     return ups if way == "up" else downs
+
+
+def need_way(way):
+    """Refuse what is no way."""
+    if way not in WAYS:
+        raise NoWay("a way is up or down")
+
+
+def need_boat(canal, way, boat):
+    """Refuse what is no boat of a way, of a canal and a way known to be such."""
+    if not is_between(boat, 0, boats_of(canal, way) - 1):
+        raise NoBoat("a boat is a whole number from 0 on, less than its way's boats are")
 
 
 def is_passing(canal, thing):

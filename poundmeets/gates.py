@@ -96,7 +96,7 @@ def bounds(canal, gates):
     need_canal(canal)
     need_gates(canal, gates)
     told = fewest_upward(gates, books_above(canal))
-    return tuple([tuple(sorted(upward.items())) for upward in told])
+    return tuple([tuple(sorted(list(upward.items()))) for upward in told])
 
 
 def is_fewest(canal, gates, thing):

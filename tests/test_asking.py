@@ -5,10 +5,10 @@ import inspect
 import unittest
 from itertools import permutations
 
-from poundmeets import canals, days, gates, numbers, sights, steps, tables
+from poundmeets import boats, canals, days, gates, numbers, sights, steps, tables, texts
 from poundmeets.errors import (
-    Barred, NoBook, NoBooks, NoCanal, NoDay, NoGates, NoLock, NoNumber, NoRow, NoSights, NoTable,
-    NoneAgree,
+    Barred, NoBoat, NoBook, NoBooks, NoCanal, NoDay, NoGates, NoLock, NoNumber, NoPlace, NoRow,
+    NoSights, NoTable, NoText, NoWay, NoneAgree, TooMany,
 )
 
 CANAL = (2, 2, 1)
@@ -60,6 +60,13 @@ ASKED = (
     (gates, "fewest", {"canal": CANAL, "gates": GATES}),
     (gates, "bounds", {"canal": CANAL, "gates": GATES}),
     (gates, "is_fewest", {"canal": CANAL, "gates": GATES, "thing": ((2,), (0,))}),
+    (boats, "without", {"canal": CANAL, "table": TABLE, "way": "up", "boat": 1}),
+    (boats, "many_unseen", {"canal": CANAL, "table": TABLE, "way": "up", "place": 2}),
+    (boats, "unseen", {"canal": CANAL, "table": TABLE, "way": "up", "place": 0}),
+    (texts, "row_text", {"canal": CANAL, "row": ROW}),
+    (texts, "table_text", {"canal": CANAL, "table": TABLE}),
+    (texts, "read_row", {"canal": CANAL, "text": "u1@0 d0@1"}),
+    (texts, "read_table", {"canal": CANAL, "text": "1/0"}),
 )
 
 
@@ -131,10 +138,18 @@ NEAR = {
     ),
 }
 NEAR["one"] = NEAR["other"] = NEAR["table"]
+NEAR["way"] = ("Up", "u", "d", "up ", " down", ("up",), ["down"], {"up": "down"}, "updown")
+NEAR["boat"] = NEAR["lock"]
+NEAR["place"] = (-1, 3, "0", (0,), [0], (), 0 - 10 ** 11)
+NEAR["text"] = (
+    "u1@0  d0@1", "u1@0 d0@1 ", " u1@0 d0@1", "u2@0", "u1@2", "u01@0", "U1@0", "1/0 ", " 1/0",
+    "0/1", "1/00", "1,0", "1/0/0", "3/0", ("1/0",), ["1/0"], (("up", 1, 0),), TABLE, "None",
+)
 REFUSED = {
     "canal": NoCanal, "row": NoRow, "day": NoDay, "table": NoTable, "lock": NoLock,
     "books": NoBooks, "number": NoNumber, "one": NoTable, "other": NoTable, "sights": NoSights,
-    "book": NoBook, "gates": NoGates,
+    "book": NoBook, "gates": NoGates, "way": NoWay, "boat": NoBoat, "place": NoPlace,
+    "text": NoText,
 }
 # Whether a thing is what, where it isn't asked of a day.
 KINDS = {"is_canal": "canal", "is_table": "table", "leads": "leading", "is_fewest": "table"}
@@ -142,7 +157,8 @@ KINDS = {"is_canal": "canal", "is_table": "table", "leads": "leading", "is_fewes
 
 def wrong(name):
     """All things that are refused as such an argument."""
-    return ODD + NEAR[name]
+    right = ("up", "down") if name == "way" else ()
+    return tuple(thing for thing in ODD if thing not in right) + NEAR[name]
 
 
 class Asking(unittest.TestCase):
@@ -206,6 +222,17 @@ class Asking(unittest.TestCase):
         self.refused(NoSights, sights.best_lock, {"canal": CANAL, "sights": crossed + (None,)})
         self.refused(NoSights, sights.best_lock, {"canal": CANAL, "sights": crossed * 51})
 
+    def test_too_many_goes_behind_all_else(self):
+        table = ((1,), (1,), (0,), (0,))
+        for ask in (boats.many_unseen, boats.unseen):
+            given = {"canal": (2, 4, 1), "table": table, "way": "up", "place": 4}
+            self.refused(TooMany, ask, given)
+            self.refused(NoPlace, ask, {**given, "place": 5})
+            self.refused(NoPlace, ask, {**given, "place": True})
+            self.refused(NoWay, ask, {**given, "way": None, "place": 5})
+            self.refused(NoTable, ask, {**given, "table": table[:3], "way": None})
+            self.refused(NoCanal, ask, {**given, "canal": (2, 5, 1), "table": table[:3]})
+
     def test_of_anything_it_is_told_whether(self):
         for module, name, given in ASKED:
             if "thing" not in given:
@@ -233,6 +260,13 @@ class Asking(unittest.TestCase):
         self.assertEqual(sights.best_lock(canal, sights.sights_of(canal, 3, books[3]))[0], 1)
         late = gates.evening(canal, way[40], ("low",) * 5)
         self.assertIs(gates.is_fewest(canal, late, gates.fewest(canal, late)[1]), True)
+        fewer = boats.without(canal, last, "up", 2)
+        least, greatest = boats.unseen((5, 3, 4), fewer, "up", 2)
+        for line in (least, greatest):
+            more = fewer[:2] + (line,) + fewer[2:]
+            self.assertEqual(boats.without(canal, more, "up", 2), fewer)
+        self.assertEqual(texts.read_row(canal, texts.row_text(canal, day)), day)
+        self.assertEqual(texts.read_table(canal, texts.table_text(canal, table)), table)
 
     def test_all_that_is_told_is_of_plain_kinds(self):
         def check(told):

@@ -130,6 +130,32 @@ class Language(unittest.TestCase):
             names = [name for node in tree.body for name in top_names(node)]
             self.assertEqual(len(names), len(set(names)), file.name)
 
+    def test_classes(self):
+        for file, tree, _ in trees():
+            for node in ast.walk(tree):
+                if isinstance(node, ast.ClassDef):
+                    self.check_class(file, node)
+
+    def check_class(self, file, node):
+        methods = [part.name for part in node.body if isinstance(part, ast.FunctionDef)]
+        self.assertEqual(len(methods), len(set(methods)), file.name)
+        for name in methods:
+            if name.startswith("__"):
+                self.assertIn(name, ("__init__", "__eq__", "__repr__", "__len__"))
+        for part in ast.walk(node):
+            # What is assigned is no method, and it hangs on an object by a name of its own.
+            if isinstance(part, ast.Attribute) and not isinstance(part.ctx, ast.Load):
+                self.assertNotIn(part.attr, methods, file.name)
+                self.assertIsInstance(part.value, ast.Name)
+        self.assertEqual(node.decorator_list, [])
+        self.assertIsInstance(ast.get_docstring(node), str)
+
+    def test_what_is_summed_or_sorted_is_a_list(self):
+        # As a class has an __eq__, these take no generator expressions.
+        for file, tree, _ in trees():
+            for node in ast.walk(tree):
+                self.assertNotIsInstance(node, (ast.GeneratorExp, ast.Yield, ast.YieldFrom), file.name)
+
     def test_what_is_not_used(self):
         for file, tree, text in trees():
             for node in ast.walk(tree):
