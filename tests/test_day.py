@@ -92,9 +92,8 @@ class MayCome(unittest.TestCase):
                 for row in days:
                     for at in range(len(row) + 1):
                         come.setdefault(row[:at], set()).add(table)
-            beginnings = sorted(come)
-            for row in Random(82).sample(beginnings, min(len(beginnings), 700)):
-                self.assertEqual(kept(canal, row).may_come(), len(come[row]), row)
+            for row, found in come.items():
+                self.assertEqual(kept(canal, row).may_come(), len(found), row)
 
     def test_the_greatest_canal(self):
         canal = plain.GREATEST
